@@ -1,0 +1,1 @@
+"""Nearhours: towers that set their clocks by letters, whoever of them lied."""

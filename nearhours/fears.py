@@ -1,0 +1,38 @@
+"""Which lots are feared."""
+
+from nearhours.joins import is_part
+from nearhours.refusals import refuse_fears, refuse_lot, refuse_town
+
+
+def is_feared(town, fears, lot):
+    """Whether all towers of the lot are in one of the lots told."""
+    refuse_town(town)
+    refuse_fears(town, fears)
+    refuse_lot(town, lot)
+    return any([is_part(lot, told) for told in fears])
+
+
+def feared_lots(town, fears):
+    """The set of all feared lots."""
+    refuse_town(town)
+    refuse_fears(town, fears)
+    return tuple(sorted({lot for told in fears for lot in parts_of(told)}))
+
+
+def greatest_fears(town, fears):
+    """The set of the feared lots that are part of no other feared lot."""
+    refuse_town(town)
+    refuse_fears(town, fears)
+    # A greatest one is always told: each feared lot is part of one that is.
+    return tuple([
+        lot for lot in fears
+        if not any([is_part(lot, told) for told in fears if told != lot])
+    ])
+
+
+def parts_of(lot):
+    """All lots that have some of the towers of this one, from none to all."""
+    parts = [()]
+    for tower in lot:
+        parts = parts + [(*part, tower) for part in parts]
+    return parts

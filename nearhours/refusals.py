@@ -1,0 +1,76 @@
+"""The refusals of arguments, each of any value, and of papers that have a fault."""
+
+from nearhours.courses import explains
+from nearhours.errors import InvalidPaper, NotUsable
+from nearhours.faults import fears_fault, is_lot, run_fault, town_fault
+from nearhours.kinds import are_integers
+
+
+def refuse_paper(fault):
+    """Raises InvalidPaper if there is a fault (word, at)."""
+    if fault is not None:
+        word, at = fault
+        raise InvalidPaper(word, at)
+
+
+def refuse_town(town):
+    """Raises NotUsable for what is no town."""
+    if town_fault(town) is not None:
+        raise NotUsable("town", -1)
+
+
+def refuse_run(town, run):
+    """Raises NotUsable for what is no run of the town."""
+    if run_fault(town, run) is not None:
+        raise NotUsable("run", -1)
+
+
+def refuse_fears(town, fears):
+    """Raises NotUsable for what are no fears of the town."""
+    if fears_fault(town, fears) is not None:
+        raise NotUsable("fears", -1)
+
+
+def refuse_lot(town, lot):
+    """Raises NotUsable for what is no lot of the town."""
+    if not is_lot(town, lot):
+        raise NotUsable("lot", -1)
+
+
+def refuse_case(town, run, lot):
+    """Raises NotUsable for what is no town, no run of it, or no lot of it."""
+    refuse_town(town)
+    refuse_run(town, run)
+    refuse_lot(town, lot)
+
+
+def refuse_tower(town, tower):
+    """Raises NotUsable for what is no tower of the town."""
+    if tower not in town[0]:
+        raise NotUsable("tower", tower)
+
+
+def refuse_ends(towers, one, other):
+    """Raises NotUsable unless one and other are two of the towers."""
+    if one not in towers:
+        raise NotUsable("one", one)
+    if other not in towers or other == one:
+        raise NotUsable("other", other)
+
+
+def refuse_gains(towers, gains):
+    """Raises NotUsable for what is no tuple with an integer for each of the towers."""
+    if not are_integers(gains, len(towers)):
+        raise NotUsable("gains", -1)
+
+
+def refuse_unexplained(town, run, lot):
+    """Raises NotUsable for a lot that does not explain the run."""
+    if not explains(town, run, lot):
+        raise NotUsable("lot", -1)
+
+
+def refuse_text(text):
+    """Raises NotUsable for what is no string."""
+    if not isinstance(text, str):
+        raise NotUsable("text", -1)

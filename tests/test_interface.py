@@ -1,0 +1,80 @@
+"""The interface of the document: names, parameters, and where each is defined."""
+
+import ast
+import importlib
+import inspect
+import os
+import unittest
+
+PLACE = os.path.join(os.path.dirname(os.path.dirname(os.path.abspath(__file__))), "nearhours")
+
+FUNCTIONS = {
+    "kinds": {name: "thing" for name in ("is_integer", "is_number", "is_name", "is_towers", "is_fraction")},
+    "townchecker": {"lets_town": "thing"},
+    "townparts": {"wire_of": "town one other", "neighbors": "town tower", "widest": "town"},
+    "runchecker": {"lets_run": "town thing"},
+    "runs": {"true_run": "town gains lates", "is_full": "town run", "letters_of": "town run lot",
+             "moved_run": "town run gains"},
+    "towntexts": {"town_text": "town", "run_text": "run"},
+    "townreadings": {"town_read": "text", "run_read": "town text"},
+    "ties": {"ties_of": "town run lot"},
+    "ways": {"way": "town run lot one other", "chain_of": "town run lot one other"},
+    "worlds": {"some_gains": "town run lot", "do_fit": "town run lot gains", "does_explain": "town run lot"},
+    "clashes": {"clash": "town run lot"},
+    "explaining": {"explain_paper": "town run lot"},
+    "explainchecker": {"lets_explained": "town run lot thing"},
+    "fearchecker": {"lets_fears": "town thing"},
+    "fears": {"is_feared": "town fears lot", "feared_lots": "town fears", "greatest_fears": "town fears"},
+}
+CLASSES = {
+    ("towns", "Town"): {
+        "__init__": "self towers *wires", "town_now": None, "towers_now": None, "wires_now": None,
+        "__getitem__": 2, "__call__": "self first second", "__contains__": 2, "__len__": 1, "__iter__": 1,
+        "__str__": 1, "__eq__": 2, "__add__": 2, "__sub__": 2, "__or__": 2, "without": "self tower",
+        "called": "self *pairs", "of": "town", "read": "text",
+    },
+    ("waycourses", "Ways"): {
+        "__init__": "self town run lot", "outside_now": None, "gains_now": None, "parts_now": None,
+        "way_between": "self one other", "chain_between": "self one other", "__len__": 1, "__iter__": 1,
+        "__contains__": 2, "__eq__": 2,
+    },
+}
+
+
+def defined_in(module):
+    """The functions and classes that the file of the module defines itself, by name."""
+    with open(os.path.join(PLACE, module + ".py"), encoding="ascii") as file:
+        rows = ast.parse(file.read()).body
+    return {row.name: row for row in rows if isinstance(row, (ast.FunctionDef, ast.ClassDef))}
+
+
+def parameters(call):
+    """The parameters as words, a star before one that takes any number."""
+    star = inspect.Parameter.VAR_POSITIONAL
+    told = inspect.signature(call).parameters.values()
+    return " ".join("*" * (one.kind == star) + one.name for one in told)
+
+
+class Interface(unittest.TestCase):
+    def test_functions(self):
+        for module, names in FUNCTIONS.items():
+            there = importlib.import_module("nearhours." + module)
+            for name, told in names.items():
+                self.assertIn(name, defined_in(module))
+                self.assertEqual(parameters(getattr(there, name)), told, name)
+
+    def test_classes(self):
+        for (module, name), methods in CLASSES.items():
+            made = getattr(importlib.import_module("nearhours." + module), name)
+            body = {row.name for row in defined_in(module)[name].body if isinstance(row, ast.FunctionDef)}
+            for method, told in methods.items():
+                self.assertIn(method, body)
+                if told is None:
+                    self.assertIsInstance(vars(made)[method], property)
+                elif isinstance(told, int):
+                    self.assertEqual(len(parameters(getattr(made, method)).split(" ")), told)
+                else:
+                    self.assertEqual(parameters(getattr(made, method)), told)
+        towns = importlib.import_module("nearhours.towns")
+        for name in ("of", "read"):
+            self.assertIsInstance(vars(towns.Town)[name], staticmethod)

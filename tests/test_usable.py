@@ -1,0 +1,144 @@
+"""Point [10]: NotUsable for each parameter, and for the first of several that are not usable."""
+
+import copy
+import itertools
+
+from nearhours.clashes import clash
+from nearhours.explainchecker import lets_explained
+from nearhours.explaining import explain_paper
+from nearhours.fearchecker import lets_fears
+from nearhours.fears import feared_lots, greatest_fears, is_feared
+from nearhours.runchecker import lets_run
+from nearhours.runs import is_full, letters_of, moved_run, true_run
+from nearhours.ties import ties_of
+from nearhours.townchecker import lets_town
+from nearhours.townparts import neighbors, widest, wire_of
+from nearhours.townreadings import run_read
+from nearhours.towns import Town
+from nearhours.towntexts import run_text, town_text
+from nearhours.waycourses import Ways
+from nearhours.ways import chain_of, way
+from nearhours.worlds import do_fit, does_explain, some_gains
+from tests.support import EACH, ODD, ODDITIES, RING, Case
+
+# For each parameter a value that is usable, and some that are not whatever the others are.
+RIGHT = {
+    "town": RING, "run": ODD, "lot": ("b",), "one": "a", "other": "c", "tower": "a", "fears": EACH,
+    "gains": (0, 5), "lates": (0, 0, 0), "thing": (), "text": "-",
+}
+WRONG = {
+    "town": ODDITIES + (RING[:1], (RING[0], RING[1][::-1]), list(RING), (("a",), (("a", "b", 0, 2),))),
+    "run": (None, True, "", [], list(ODD), (None,), (("a", "b", 0),), (("a", "z", 0, 1),), (("a", "a", 0, 1),),
+            (("a", "b", 0, True),), ODD + (["a", "b", 0, 1],)),
+    "lot": (None, True, 0, "a", "", [], ["a"], ("z",), ("b", "a"), ("a", "a"), (1,), (True,)),
+    "one": (None, True, 0, 1, "", "z", ("a",), ["a"], "ab"),
+    "other": (None, True, 0, 1, "", "z", ("b",), ["c"], "a"),
+    "tower": (None, True, 0, 1, "", "z", ("a",), ["a"], "ab"),
+    "fears": (None, True, "", (), [], [()], (("b",), ("a",)), (("z",),), (("b", "a"),), ("a",)),
+    "gains": (None, True, (), (0,), [0, 5], [0, 0, 0], (0, True), (0, 0, None), (0, 0, 0, 0)),
+    "lates": (None, True, (), (0, 0), [0, 0, 0], (0, 0, True), (0, 0, 3), (0, 0, -1), (0, 0, 0, 0)),
+    "text": (None, True, 0, (), ["-"]),
+}
+AT = ("one", "other", "tower")
+
+CALLS = (
+    (wire_of, "town one other"), (neighbors, "town tower"), (widest, "town"), (lets_run, "town"),
+    (true_run, "town gains lates"), (is_full, "town run"), (letters_of, "town run lot"),
+    (moved_run, "town run gains"), (town_text, "town"), (run_read, "town text"), (ties_of, "town run lot"),
+    (way, "town run lot one other"), (chain_of, "town run lot one other"), (some_gains, "town run lot"),
+    (do_fit, "town run lot gains"), (does_explain, "town run lot"), (clash, "town run lot"),
+    (explain_paper, "town run lot"), (lets_explained, "town run lot"), (Ways, "town run lot"),
+    (lets_fears, "town"), (is_feared, "town fears lot"), (feared_lots, "town fears"),
+    (greatest_fears, "town fears"),
+)
+CHECKERS = (lets_run, lets_explained, lets_fears)
+
+
+def right_for(call, names):
+    """Usable arguments by name, in the order of the parameters."""
+    told = {name: RIGHT[name] for name in names}
+    if call in (true_run, moved_run):
+        told["gains"] = (1, 2, 3)
+    if call in CHECKERS:
+        told["thing"] = None
+    return told
+
+
+class Usable(Case):
+    def at_of(self, name, value):
+        return value if name in AT else -1
+
+    def test_each_parameter(self):
+        for call, text in CALLS:
+            names = text.split(" ")
+            for name in names:
+                for value in WRONG[name]:
+                    told = {**right_for(call, names), name: value}
+                    at = self.at_of(name, value)
+                    self.not_usable(name, at, call, *told.values())
+                    self.not_usable(name, at, call, **told)
+                    if name in AT:
+                        self.assertIs(self.refusal(call, **told)[1]["at"], value)
+
+    def test_the_first_of_two(self):
+        for call, text in CALLS:
+            names = text.split(" ")
+            for first, second in itertools.combinations(names, 2):
+                for value, later in itertools.product(WRONG[first][:4], WRONG[second][:4]):
+                    told = {**right_for(call, names), first: value, second: later}
+                    self.not_usable(first, self.at_of(first, value), call, **told)
+
+    def test_usable_ones_are_taken(self):
+        for call, text in CALLS:
+            if call not in CHECKERS:
+                told = right_for(call, text.split(" "))
+                self.assertEqual(repr(call(**told)), repr(call(*told.values())))
+
+    def test_arguments_stay_as_they_are(self):
+        for call, text in CALLS:
+            names = text.split(" ")
+            for name in names:
+                value = [[list(RING)], ["a", ["b"]], []]
+                told = {**right_for(call, names), name: value}
+                before = copy.deepcopy(told)
+                self.not_usable(name, self.at_of(name, value), call, **told)
+                self.assertEqual(told, before)
+
+    def test_what_checkers_are_handed_stays_as_it_is(self):
+        things = ([["a", "b"], []], (["a"], []), (("a",), [[]]), ("ring", [[0, "b"]]), ("gains", ([1], 2, 3)))
+        for thing in things + (([0, "b"],), (["a", "b", 0, 1],)):
+            before = copy.deepcopy(thing)
+            self.refusal(lets_town, thing)
+            self.refusal(lets_run, RING, thing)
+            self.refusal(lets_explained, RING, ODD, (), thing)
+            self.refusal(lets_fears, RING, thing)
+            self.refusal(Town, thing)
+            self.refusal(Town, ("a", "b"), thing)
+            self.refusal(Town, RING[0], *thing)
+            self.refusal(run_text, thing)
+            self.assertFalse(thing in Town.of(RING) or thing in Ways(RING, (), ()))
+            self.assertEqual(thing, before)
+
+    def test_a_tower_of_the_lot(self):
+        for call in (way, chain_of):
+            self.not_usable("one", "b", call, RING, ODD, ("b",), "b", "z")
+            self.not_usable("one", "b", call, RING, ODD, ("b",), "b", "b")
+            self.not_usable("other", "b", call, RING, ODD, ("b",), "a", "b")
+            self.not_usable("other", "a", call, RING, ODD, ("b",), "a", "a")
+
+    def test_a_lot_that_does_not_explain_comes_last(self):
+        for call in (way, chain_of):
+            self.not_usable("lot", -1, call, RING, ODD, (), "a", "b")
+            self.not_usable("one", "z", call, RING, ODD, (), "z", "z")
+            self.not_usable("other", "z", call, RING, ODD, (), "a", "z")
+            self.not_usable("other", "a", call, RING, ODD, (), "a", "a")
+            self.not_usable("lot", -1, call, RING, ODD, ("z",), "z", "z")
+            self.not_usable("run", -1, call, RING, None, None, "z", "z")
+        self.not_usable("lot", -1, Ways, RING, ODD, ())
+        self.not_usable("lot", -1, Ways, town=RING, run=ODD, lot=("b", "a"))
+
+    def test_where_it_need_not_explain(self):
+        self.assertEqual(len(ties_of(RING, ODD, ())), 6)
+        self.assertIs(does_explain(RING, ODD, ()), False)
+        self.assertIs(do_fit(RING, ODD, (), (0, 0, 0)), False)
+        self.assertIsNone(some_gains(RING, ODD, ()))
