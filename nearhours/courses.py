@@ -23,7 +23,7 @@ def least_sums(ties, starts, many):
     fell in the last round, None if none did. So many rounds are enough for all chains that pass
     no tower twice; only a clashing ring lets a sum fall after that.
     """
-    sums = {tower: 0 for tower in starts}
+    sums = dict([(tower, 0) for tower in starts])
     last = {}
     fallen = None
     for _ in range(many):

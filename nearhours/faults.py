@@ -1,7 +1,7 @@
 """The first fault of any value that is to be a town, a run or fears: (word, at), None without one."""
 
 from nearhours.joins import bounds_by_ends
-from nearhours.kinds import are_integers, is_ascending, is_towers, is_tuple
+from nearhours.kinds import are_integers, is_ascending, is_integer, is_towers, is_tuple
 
 
 def is_wire_form(towers, thing):
@@ -22,6 +22,11 @@ def is_lot(town, thing):
     if not isinstance(thing, tuple):
         return False
     return all([tower in town[0] for tower in thing]) and is_ascending(thing)
+
+
+def is_event(town, thing):
+    """Whether it is an event of the town: a pair of a tower and an integer."""
+    return is_tuple(thing, 2) and thing[0] in town[0] and is_integer(thing[1])
 
 
 def town_fault(thing):
@@ -58,6 +63,11 @@ def run_fault(town, thing):
         if not are_integers(letter[2:], 2):
             return "hours", k
     return None
+
+
+def is_letter(town, thing):
+    """Whether it is a letter of the town."""
+    return run_fault(town, (thing,)) is None
 
 
 def fears_fault(town, thing):

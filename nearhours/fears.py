@@ -1,5 +1,6 @@
 """Which lots are feared."""
 
+from nearhours.doubts import feared_of, is_under
 from nearhours.joins import is_part
 from nearhours.refusals import refuse_fears, refuse_lot, refuse_town
 
@@ -9,14 +10,14 @@ def is_feared(town, fears, lot):
     refuse_town(town)
     refuse_fears(town, fears)
     refuse_lot(town, lot)
-    return any([is_part(lot, told) for told in fears])
+    return is_under(fears, lot)
 
 
 def feared_lots(town, fears):
     """The set of all feared lots."""
     refuse_town(town)
     refuse_fears(town, fears)
-    return tuple(sorted({lot for told in fears for lot in parts_of(told)}))
+    return feared_of(fears)
 
 
 def greatest_fears(town, fears):
@@ -28,11 +29,3 @@ def greatest_fears(town, fears):
         lot for lot in fears
         if not any([is_part(lot, told) for told in fears if told != lot])
     ])
-
-
-def parts_of(lot):
-    """All lots that have some of the towers of this one, from none to all."""
-    parts = [()]
-    for tower in lot:
-        parts = parts + [(*part, tower) for part in parts]
-    return parts

@@ -16,6 +16,11 @@ def outside_of(town, lot):
     return tuple([tower for tower in town[0] if tower not in lot])
 
 
+def pairs_of(towers):
+    """All pairs of two towers, in both directions, ascending."""
+    return tuple([(one, other) for one in towers for other in towers if one != other])
+
+
 def is_outside(letter, lot):
     """Whether the letter goes between two towers that are not in the lot."""
     return letter[0] not in lot and letter[1] not in lot

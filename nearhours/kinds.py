@@ -34,6 +34,11 @@ def is_fraction(thing):
     return thing[1] >= 1 and gcd(thing[0], thing[1]) == 1
 
 
+def is_index(thing, many):
+    """Whether it is an index of so many things."""
+    return is_number(thing) and thing < many
+
+
 def is_tuple(thing, many):
     """Whether it is a tuple of so many elements."""
     return isinstance(thing, tuple) and len(thing) == many
@@ -42,6 +47,11 @@ def is_tuple(thing, many):
 def are_integers(thing, many):
     """Whether it is a tuple of so many integers."""
     return is_tuple(thing, many) and all([is_integer(number) for number in thing])
+
+
+def are_fractions(thing, many):
+    """Whether it is a tuple of so many fractions."""
+    return is_tuple(thing, many) and all([is_fraction(one) for one in thing])
 
 
 def is_ascending(row):

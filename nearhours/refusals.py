@@ -1,9 +1,10 @@
 """The refusals of arguments, each of any value, and of papers that have a fault."""
 
 from nearhours.courses import explains
+from nearhours.doubts import is_explained
 from nearhours.errors import InvalidPaper, NotUsable
-from nearhours.faults import fears_fault, is_lot, run_fault, town_fault
-from nearhours.kinds import are_integers
+from nearhours.faults import fears_fault, is_event, is_letter, is_lot, run_fault, town_fault
+from nearhours.kinds import are_fractions, are_integers, is_index
 
 
 def refuse_paper(fault):
@@ -42,6 +43,67 @@ def refuse_case(town, run, lot):
     refuse_town(town)
     refuse_run(town, run)
     refuse_lot(town, lot)
+
+
+def refuse_asked(town, fears, run):
+    """Raises NotUsable for what is no town, no fears of it, or no run of it."""
+    refuse_town(town)
+    refuse_fears(town, fears)
+    refuse_run(town, run)
+
+
+def refuse_quarrel(town, fears, run):
+    """Raises NotUsable for a run that no feared lot explains."""
+    if not is_explained(town, fears, run):
+        raise NotUsable("run", -1)
+
+
+def refuse_letter(town, letter):
+    """Raises NotUsable for what is no letter of the town."""
+    if not is_letter(town, letter):
+        raise NotUsable("letter", -1)
+
+
+def refuse_index(many, index):
+    """Raises NotUsable for what is no index of so many things."""
+    if not is_index(index, many):
+        raise NotUsable("index", index)
+
+
+def refuse_setting(town, setting):
+    """Raises NotUsable for what is no tuple with a fraction for each tower."""
+    if not are_fractions(setting, len(town[0])):
+        raise NotUsable("setting", -1)
+
+
+def refuse_event(town, word, event):
+    """Raises NotUsable with the word for what is no event of the town."""
+    if not is_event(town, event):
+        raise NotUsable(word, -1)
+
+
+def refuse_events(town, events):
+    """Raises NotUsable for what is no tuple of events of the town."""
+    if not isinstance(events, tuple):
+        raise NotUsable("events", -1)
+    for k, event in enumerate(events):
+        if not is_event(town, event):
+            raise NotUsable("events", k)
+
+
+def refuse_ahead(town, fears, run, early, late):
+    """Raises NotUsable for what is not as asked, and unless early and late are events."""
+    refuse_asked(town, fears, run)
+    refuse_event(town, "early", early)
+    refuse_event(town, "late", late)
+
+
+def refuse_claim(town, fears, run, early, late):
+    """Raises NotUsable for what is no claim: events of two towers, the run explained."""
+    refuse_ahead(town, fears, run, early, late)
+    if early[0] == late[0]:
+        raise NotUsable("late", -1)
+    refuse_quarrel(town, fears, run)
 
 
 def refuse_tower(town, tower):

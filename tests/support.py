@@ -1,5 +1,6 @@
 """What the tests share: values of the document, and how refusals are looked at."""
 
+import fractions
 import itertools
 import random
 import unittest
@@ -138,3 +139,128 @@ def all_rings(town, run):
             if end == tower:
                 rings.append(({other for _, other in steps}, total))
     return rings
+
+
+def plain_feared(fears):
+    """All feared lots by the words of [8], ascending."""
+    return sorted({lot for told in fears for lot in lots_of(told)})
+
+
+def plain_suspects(town, fears, run):
+    """All suspects, by a tower of each clashing ring ((O1)), ascending."""
+    clashing = [towers for towers, total in all_rings(town, run) if total < 0]
+    return tuple(lot for lot in plain_feared(fears) if all(towers & set(lot) for towers in clashing))
+
+
+def plain_ways(town, run, lot):
+    """The least sums of all chains without the lot, by pairs of towers; the lot is to explain the run."""
+    ties = plain_ties(town, run, lot)
+    sums = {}
+    for one in town[0]:
+        for _, other, total in all_chains(ties, one):
+            if other != one:
+                sums[one, other] = min(total, sums.get((one, other), total))
+    return sums
+
+
+def plain_reaches(town, fears, run):
+    """All told reaches, by going through all suspects and all chains."""
+    found = {}
+    for lot in plain_suspects(town, fears, run):
+        left = [tower for tower in town[0] if tower not in lot]
+        sums = plain_ways(town, run, lot)
+        for pair in itertools.permutations(left, 2):
+            found.setdefault(pair, []).append(sums.get(pair))
+    return tuple((*pair, None if None in found[pair] else max(found[pair])) for pair in sorted(found))
+
+
+def all_circles(towers):
+    """All circles of two or more of the towers, each once for each tower at which it can begin."""
+    return [circle for many in range(2, len(towers) + 1) for circle in itertools.permutations(towers, many)]
+
+
+def plain_means(towers, rows):
+    """The mean of each circle all of whose reaches are told, as Python's fractions."""
+    told = {row[:2]: row[2] for row in rows}
+    means = {}
+    for circle in all_circles(towers):
+        steps = list(zip(circle, circle[1:] + circle[:1]))
+        if all(step in told for step in steps):
+            means[circle] = fractions.Fraction(sum(told[step] for step in steps), len(steps))
+    return means
+
+
+def as_pair(number):
+    """One of Python's fractions as the document has them."""
+    return number.numerator, number.denominator
+
+
+def joined_town(chance, many, share=0.9):
+    """A small town of so many towers, most two of which are joined."""
+    towers = tuple("abcde"[:many])
+    wires = []
+    for one, other in itertools.combinations(towers, 2):
+        if chance.random() < share:
+            low = chance.randint(-1, 1)
+            wires.append((one, other, low, low + chance.randint(0, 3)))
+    return towers, tuple(wires)
+
+
+def heard_run(chance, town, liars, many):
+    """A run of so many letters, sound but for those from or to the liars."""
+    gain = {tower: chance.randint(-3, 3) for tower in town[0]}
+    letters = []
+    for _ in range(many if town[1] else 0):
+        one, other, low, high = chance.choice(town[1])
+        if chance.random() < 0.5:
+            one, other = other, one
+        sent = chance.randint(-3, 3)
+        late = chance.randint(low, high)
+        if one in liars or other in liars:
+            late += chance.randint(-4, 4)
+        letters.append((one, other, sent, sent - gain[one] + gain[other] + late))
+    return tuple(letters)
+
+
+def some_fears_of(chance, towers):
+    """One to four lots of the towers, by chance, small ones more often."""
+    lots = sorted(lots_of(towers), key=len)
+    told = {chance.choice(lots[:chance.randint(1, len(lots))]) for _ in range(chance.randint(1, 4))}
+    return tuple(sorted(told))
+
+
+def some_inquests(seed, count, towers=(1, 2, 3, 4), letters=6):
+    """So many triples of a town, fears and a run, explained or not, always the same ones for a seed."""
+    chance = random.Random(seed)
+    cases = []
+    for _ in range(count):
+        town = joined_town(chance, chance.choice(towers))
+        fears = some_fears_of(chance, town[0])
+        liars = chance.choice(fears if chance.random() < 0.6 else lots_of(town[0]))
+        many = chance.randint(0, letters)
+        if chance.random() < 0.8:
+            cases.append((town, fears, heard_run(chance, town, liars, many)))
+        else:
+            cases.append((town, fears, some_run(chance, town, many)))
+    return cases
+
+
+def explained_inquests(seed, count, towers=(1, 2, 3, 4), letters=8):
+    """Those of such triples in which some feared lot explains the run."""
+    return [case for case in some_inquests(seed, count, towers, letters) if plain_suspects(*case)]
+
+
+def parted_inquests(seed, count, towers=(3, 4)):
+    """Such triples in which no lot is sure: all towers joined, each feared, a full run that one spoiled."""
+    chance = random.Random(seed)
+    cases = []
+    while len(cases) < count:
+        town = joined_town(chance, chance.choice(towers), 1)
+        fears = tuple((tower,) for tower in town[0])
+        run = []
+        for one, other, low, high in town[1]:
+            late = chance.randint(low, high) + (chance.randint(0, 12) if other == town[0][-1] else 0)
+            run.append((one, other, 0, late) if chance.random() < 0.8 else (other, one, 0, high + low - late))
+        if plain_suspects(town, fears, tuple(run)):
+            cases.append((town, fears, tuple(run)))
+    return cases

@@ -25,6 +25,24 @@ FUNCTIONS = {
     "explainchecker": {"lets_explained": "town run lot thing"},
     "fearchecker": {"lets_fears": "town thing"},
     "fears": {"is_feared": "town fears lot", "feared_lots": "town fears", "greatest_fears": "town fears"},
+    "suspects": {name: "town fears run" for name in (
+        "suspects", "least_suspects", "kernel_suspects", "surely_lied", "could_lie")},
+    "liepapers": {"lie_paper": "town fears run tower", "quarrel_paper": "town fears run"},
+    "liechecker": {"lets_lie": "town fears run tower thing", "lets_quarrel": "town fears run thing"},
+    "reaching": {"reach": "town fears run one other", "reaches": "town fears run"},
+    "settings": {"nearest": "town fears run", "best_setting": "town fears run",
+                 "nearness_of": "town fears run setting"},
+    "circles": {"worst_circle": "town fears run", "room_between": "town fears run one other"},
+    "ringpapers": {"ring_paper": "town fears run"},
+    "ringchecker": {"lets_ring": "town fears run thing"},
+    "nearpapers": {"near_paper": "town fears run"},
+    "nearchecker": {"lets_near": "town fears run thing"},
+    "events": {"gap": "town fears run one other", "shown_at": "town fears run event tower",
+               "surely_ahead": "town fears run early late", "could_be_ahead": "town fears run early late"},
+    "surepairs": {"sure_pairs": "town fears run events", "circle_of": "town fears run events"},
+    "claimpapers": {"claim_paper": "town fears run early late"},
+    "claimchecker": {"lets_claim": "town fears run early late thing"},
+    "parting": {name: "town fears" for name in ("three_lots", "two_lots", "is_bounded", "play_of", "bound_of")},
 }
 CLASSES = {
     ("towns", "Town"): {
@@ -37,6 +55,24 @@ CLASSES = {
         "__init__": "self town run lot", "outside_now": None, "gains_now": None, "parts_now": None,
         "way_between": "self one other", "chain_between": "self one other", "__len__": 1, "__iter__": 1,
         "__contains__": 2, "__eq__": 2,
+    },
+    ("inquests", "Inquest"): {
+        "__init__": "self town fears run", "town_now": None, "fears_now": None, "run_now": None,
+        "suspects_now": None, "kernel_now": None, "lied_now": None, "could_now": None, "verdicts_now": None,
+        "__getitem__": 2, "__contains__": 2, "__len__": 1, "__iter__": 1, "__eq__": 2, "__add__": 2, "__sub__": 2,
+        "__or__": 2, "__xor__": 2, "telling": "self", "paper": "self tower",
+    },
+    ("setters", "Setter"): {
+        "__init__": "self town fears run", "town_now": None, "fears_now": None, "run_now": None,
+        "nearest_now": None, "setting_now": None, "reach_between": "self one other", "nearness_by": "self setting",
+        "hour_set": "self tower hour", "with_letter": "self letter", "__contains__": 2, "__len__": 1, "__iter__": 1,
+        "__eq__": 2,
+    },
+    ("annals", "Annals"): {
+        "__init__": "self town fears run events", "town_now": None, "fears_now": None, "run_now": None,
+        "events_now": None, "pairs_now": None, "circle_now": None, "__getitem__": 2, "__contains__": 2, "__len__": 1,
+        "__iter__": 1, "__eq__": 2, "__call__": "self early late", "sure_before": "self index",
+        "sure_after": "self index", "with_event": "self event", "with_letter": "self letter", "of": "town fears run",
     },
 }
 
@@ -78,3 +114,5 @@ class Interface(unittest.TestCase):
         towns = importlib.import_module("nearhours.towns")
         for name in ("of", "read"):
             self.assertIsInstance(vars(towns.Town)[name], staticmethod)
+        annals = importlib.import_module("nearhours.annals")
+        self.assertIsInstance(vars(annals.Annals)["of"], classmethod)

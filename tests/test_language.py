@@ -28,7 +28,7 @@ METHODS = set("""
     setdefault split splitlines startswith strip update upper values zfill bit_length isascii add
 """.split())
 DUNDERS = set("""
-    __init__ __eq__ __repr__ __str__ __len__ __call__ __iter__ __lt__ __add__ __sub__ __or__ __contains__
+    __init__ __eq__ __repr__ __str__ __len__ __call__ __iter__ __lt__ __add__ __sub__ __or__ __xor__ __contains__
     __getitem__
 """.split())
 BARRED = set("""
@@ -193,7 +193,7 @@ class Language(unittest.TestCase):
                 self.assertNotIn(one, BARRED | set(dir(builtins)), name)
             for node in ast.walk(tree):
                 if isinstance(node, ast.Name) and isinstance(node.ctx, ast.Load):
-                    known = bound | told | BUILTINS | {"property", "staticmethod"}
+                    known = bound | told | BUILTINS | {"property", "staticmethod", "classmethod"}
                     self.assertIn(node.id, known - {"_"}, f"{name}:{node.lineno}")
 
     def test_methods_and_attributes(self):
@@ -220,7 +220,7 @@ class Language(unittest.TestCase):
                 self.assertEqual((node.decorator_list, node.keywords), ([], []), place)
             if isinstance(node, ast.FunctionDef):
                 told = [one.id for one in node.decorator_list]
-                self.assertIn(told, ([], ["property"], ["staticmethod"]), place)
+                self.assertIn(told, ([], ["property"], ["staticmethod"], ["classmethod"]), place)
 
     def test_double_underscores(self):
         """L5 Iteration, L28: methods of one statement, and what they return."""

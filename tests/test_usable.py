@@ -3,13 +3,31 @@
 import copy
 import itertools
 
+from nearhours.annals import Annals
+from nearhours.circles import room_between, worst_circle
+from nearhours.claimchecker import lets_claim
+from nearhours.claimpapers import claim_paper
 from nearhours.clashes import clash
+from nearhours.events import could_be_ahead, gap, shown_at, surely_ahead
 from nearhours.explainchecker import lets_explained
 from nearhours.explaining import explain_paper
 from nearhours.fearchecker import lets_fears
 from nearhours.fears import feared_lots, greatest_fears, is_feared
+from nearhours.inquests import Inquest
+from nearhours.liechecker import lets_lie, lets_quarrel
+from nearhours.liepapers import lie_paper, quarrel_paper
+from nearhours.nearchecker import lets_near
+from nearhours.nearpapers import near_paper
+from nearhours.parting import bound_of, is_bounded, play_of, three_lots, two_lots
+from nearhours.reaching import reach, reaches
+from nearhours.ringchecker import lets_ring
+from nearhours.ringpapers import ring_paper
 from nearhours.runchecker import lets_run
 from nearhours.runs import is_full, letters_of, moved_run, true_run
+from nearhours.setters import Setter
+from nearhours.settings import best_setting, nearest, nearness_of
+from nearhours.surepairs import circle_of, sure_pairs
+from nearhours.suspects import could_lie, kernel_suspects, least_suspects, surely_lied, suspects
 from nearhours.ties import ties_of
 from nearhours.townchecker import lets_town
 from nearhours.townparts import neighbors, widest, wire_of
@@ -24,7 +42,8 @@ from tests.support import EACH, ODD, ODDITIES, RING, Case
 # For each parameter a value that is usable, and some that are not whatever the others are.
 RIGHT = {
     "town": RING, "run": ODD, "lot": ("b",), "one": "a", "other": "c", "tower": "a", "fears": EACH,
-    "gains": (0, 5), "lates": (0, 0, 0), "thing": (), "text": "-",
+    "gains": (0, 5), "lates": (0, 0, 0), "thing": (), "text": "-", "setting": ((0, 1), (1, 2), (-3, 1)),
+    "event": ("b", 0), "early": ("a", 0), "late": ("c", 4), "events": (("a", 0), ("b", 2)),
 }
 WRONG = {
     "town": ODDITIES + (RING[:1], (RING[0], RING[1][::-1]), list(RING), (("a",), (("a", "b", 0, 2),))),
@@ -38,6 +57,12 @@ WRONG = {
     "gains": (None, True, (), (0,), [0, 5], [0, 0, 0], (0, True), (0, 0, None), (0, 0, 0, 0)),
     "lates": (None, True, (), (0, 0), [0, 0, 0], (0, 0, True), (0, 0, 3), (0, 0, -1), (0, 0, 0, 0)),
     "text": (None, True, 0, (), ["-"]),
+    "setting": (None, True, (), ((0, 1),), [(0, 1)] * 3, ((0, 1), (0, 1), (2, 2)), ((0, 1), (0, 1), (0, True)),
+                ((0, 1),) * 4),
+    "event": (None, True, "a", (), ("a",), ("z", 0), ("a", True), ["a", 0], ("a", 0, 0)),
+    "early": (None, True, "a", (), ("a",), ("z", 0), ("a", True), ["a", 0], ("a", 0, 0)),
+    "late": (None, True, "a", (), ("a",), ("z", 0), ("a", True), ["a", 0], ("a", 0, 0)),
+    "events": (None, True, "", 0, [], [("a", 0)]),
 }
 AT = ("one", "other", "tower")
 
@@ -49,9 +74,26 @@ CALLS = (
     (do_fit, "town run lot gains"), (does_explain, "town run lot"), (clash, "town run lot"),
     (explain_paper, "town run lot"), (lets_explained, "town run lot"), (Ways, "town run lot"),
     (lets_fears, "town"), (is_feared, "town fears lot"), (feared_lots, "town fears"),
-    (greatest_fears, "town fears"),
+    (greatest_fears, "town fears"), (suspects, "town fears run"), (least_suspects, "town fears run"),
+    (kernel_suspects, "town fears run"), (surely_lied, "town fears run"), (could_lie, "town fears run"),
+    (lie_paper, "town fears run tower"), (quarrel_paper, "town fears run"), (lets_lie, "town fears run tower"),
+    (lets_quarrel, "town fears run"), (Inquest, "town fears run"), (three_lots, "town fears"),
+    (two_lots, "town fears"), (is_bounded, "town fears"), (play_of, "town fears"), (bound_of, "town fears"),
 )
-CHECKERS = (lets_run, lets_explained, lets_fears)
+# Of these the run is to be one that some feared lot explains.
+EXPLAINED = (
+    (reach, "town fears run one other"), (reaches, "town fears run"), (nearest, "town fears run"),
+    (best_setting, "town fears run"), (nearness_of, "town fears run setting"), (worst_circle, "town fears run"),
+    (room_between, "town fears run one other"), (ring_paper, "town fears run"), (lets_ring, "town fears run"),
+    (near_paper, "town fears run"), (lets_near, "town fears run"), (Setter, "town fears run"),
+    (gap, "town fears run one other"), (shown_at, "town fears run event tower"),
+    (surely_ahead, "town fears run early late"), (could_be_ahead, "town fears run early late"),
+    (sure_pairs, "town fears run events"), (circle_of, "town fears run events"),
+    (claim_paper, "town fears run early late"), (lets_claim, "town fears run early late"),
+    (Annals, "town fears run events"), (Annals.of, "town fears run"),
+)
+CALLS = CALLS + EXPLAINED
+CHECKERS = (lets_run, lets_explained, lets_fears, lets_lie, lets_quarrel, lets_ring, lets_near, lets_claim)
 
 
 def right_for(call, names):
@@ -92,7 +134,9 @@ class Usable(Case):
         for call, text in CALLS:
             if call not in CHECKERS:
                 told = right_for(call, text.split(" "))
-                self.assertEqual(repr(call(**told)), repr(call(*told.values())))
+                found = call(**told)
+                self.assertTrue(found == call(*told.values()))
+                self.assertIs(type(found), type(call(**told)))
 
     def test_arguments_stay_as_they_are(self):
         for call, text in CALLS:
@@ -112,6 +156,10 @@ class Usable(Case):
             self.refusal(lets_run, RING, thing)
             self.refusal(lets_explained, RING, ODD, (), thing)
             self.refusal(lets_fears, RING, thing)
+            for checker in (lets_quarrel, lets_ring, lets_near):
+                self.refusal(checker, RING, EACH, ODD, thing)
+            self.refusal(lets_lie, RING, EACH, ODD, "a", thing)
+            self.refusal(lets_claim, RING, EACH, ODD, ("a", 0), ("b", 0), thing)
             self.refusal(Town, thing)
             self.refusal(Town, ("a", "b"), thing)
             self.refusal(Town, RING[0], *thing)
@@ -136,6 +184,29 @@ class Usable(Case):
             self.not_usable("run", -1, call, RING, None, None, "z", "z")
         self.not_usable("lot", -1, Ways, RING, ODD, ())
         self.not_usable("lot", -1, Ways, town=RING, run=ODD, lot=("b", "a"))
+
+    def test_a_run_that_nobody_explains_comes_last(self):
+        for call, text in EXPLAINED:
+            names = text.split(" ")
+            told = {**right_for(call, names), "fears": ((),)}
+            self.not_usable("run", -1, call, **told)
+            self.not_usable("run", -1, call, *told.values())
+            for name in names:
+                for value in WRONG[name]:
+                    self.not_usable(name, self.at_of(name, value), call, **{**told, name: value})
+
+    def test_papers_are_looked_at_behind_a_run(self):
+        for call, text in EXPLAINED:
+            if call in CHECKERS:
+                told = {**right_for(call, text.split(" ")), "fears": ((),)}
+                for thing in ("", ("circle", ()), ("near", (), ()), ("sure", ()), ["sure"]):
+                    self.not_usable("run", -1, call, **{**told, "thing": thing})
+
+    def test_where_no_lot_need_explain(self):
+        self.same(suspects(RING, ((),), ODD), ())
+        self.same(lets_quarrel(RING, ((),), ODD, quarrel_paper(RING, ((),), ODD)), 1)
+        self.same(lie_paper(RING, ((),), ODD, "a")[0], "sure")
+        self.same(len(Inquest(RING, ((),), ODD)), 0)
 
     def test_where_it_need_not_explain(self):
         self.assertEqual(len(ties_of(RING, ODD, ())), 6)
