@@ -58,10 +58,10 @@ def slack_ties(rows, mean):
 
 
 def worst_of(towers, rows):
-    """A circle of towers whose mean is the greatest, and this; () and 0 if no mean is 0 or more."""
+    """A circle of towers whose mean is the greatest, and this; () and 0 if there is no circle."""
     circle = ()
-    # No mean is between this and 0: a circle has at most as many steps as there are towers.
-    mean = (-1, len(towers) + 1)
+    # Where a reach is told, that and the one back make a circle whose mean is 0 or more.
+    mean = (-1, 1)
     ring = ring_by(slack_ties(rows, mean), towers)
     while ring is not None:
         circle = tuple([tower for _, tower in ring])

@@ -67,7 +67,7 @@ def reach_row(town, fears, run, one, other):
 def is_farther(most, known):
     """Whether an amount is greater than a known one, None being that of what has no greatest."""
     if most is None or known is None:
-        return most is None and known is not None
+        return known is not None
     return most > known
 
 

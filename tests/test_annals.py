@@ -12,7 +12,6 @@ from tests.support import (
 )
 
 MET = (("a", "b", 5, 6),)
-SPLIT = (("a", "b", 0, 0), ("a", "b", 0, 3))
 TURN = (("a", 0), ("b", 2), ("c", 4))
 WRONG_EVENTS = (None, True, 0, "a0", (), ("a",), ("a", 0, 0), ["a", 0], ("z", 0), (0, "a"), ("a", True), ("a", None),
                 ("a", "0"), (["a"], 0), (True, 0), ("", 0))
@@ -31,10 +30,11 @@ def state(one):
 def some_annals(seed, count, many=5):
     """The parts of Annals, by chance."""
     chance = random.Random(seed)
-    return [
-        (town, fears, run, tuple((chance.choice(town[0]), chance.randint(-6, 6)) for _ in range(chance.randint(0, many))))
-        for town, fears, run in explained_inquests(seed, count, (1, 2, 3, 4), 8)
-    ]
+    cases = []
+    for town, fears, run in explained_inquests(seed, count, (1, 2, 3, 4), 8):
+        events = [(chance.choice(town[0]), chance.randint(-6, 6)) for _ in range(chance.randint(0, many))]
+        cases.append((town, fears, run, tuple(events)))
+    return cases
 
 
 class AnnalsOfEvents(Case):
@@ -87,15 +87,17 @@ class AnnalsOfEvents(Case):
 
     def test_contains(self):
         one = Annals(RING, EACH, ODD, (("a", 0), ("b", 1)))
-        for thing in ODDITIES + WRONG_EVENTS + (("a", False), ("b", True), ("b", 0), ("c", 0), ["a", 0], one, Town.of(RING)):
+        others = (("a", False), ("b", True), ("b", 0), ("c", 0), ["a", 0], one, Town.of(RING))
+        for thing in ODDITIES + WRONG_EVENTS + others:
             self.assertIs(thing in one, False, thing)
         self.assertIs(("a", 0) in one and ("b", 1) in one, True)
 
     def test_equality(self):
         self.assertTrue(self.one == Annals(RING, EACH, ODD, TURN))
         wide = (RING[0], RING[1][:2] + (("b", "c", 0, 3),))
-        for other in (Annals(RING, EACH, ODD, TURN[:2]), Annals(RING, EACH, ODD, TURN[::-1]), Annals(RING, EACH, ODD[:2], TURN),
-                      Annals(RING, EACH[:2], ODD, TURN), Annals(wide, EACH, ODD, TURN), Town.of(RING), TURN, None, 0):
+        for other in (Annals(RING, EACH, ODD, TURN[:2]), Annals(RING, EACH, ODD, TURN[::-1]),
+                      Annals(RING, EACH, ODD[:2], TURN), Annals(RING, EACH[:2], ODD, TURN),
+                      Annals(wide, EACH, ODD, TURN), Town.of(RING), TURN, None, 0):
             self.assertIs(self.one == other, False)
             self.assertIs(self.one != other, True)
 

@@ -142,8 +142,8 @@ class Checker(Case):
             self.refused("row", 2, ("sure", (TURN, DOWN, row)))
 
     def test_step(self):
-        for step in (None, True, 0, "ab", (), (0,), (0, "b", 0), [0, "b"], (True, "b"), (False, "b"), (-1, "a"), (3, "b"),
-                     (LONG, "b"), ("0", "b"), (0, "c"), (0, 1), (0, True), (0, ["b"]), ([0], "b")):
+        for step in (None, True, 0, "ab", (), (0,), (0, "b", 0), [0, "b"], (True, "b"), (False, "b"), (-1, "a"),
+                     (3, "b"), (LONG, "b"), ("0", "b"), (0, "c"), (0, 1), (0, True), (0, ["b"]), ([0], "b")):
             for kind in ("chain", "ring"):
                 self.refused("step", (0, 0), ("sure", ((kind, (step,)), None, None)))
             self.refused("step", (2, 1), ("sure", (TURN, DOWN, ("chain", ((2, "a"), step, None)))))
@@ -164,13 +164,14 @@ class Checker(Case):
         self.refused("from", (2, 1), ("sure", (TURN, DOWN, ("ring", ((0, "b"), (0, "b"))))))
 
     def test_end(self):
-        for row in (("chain", ()), ("ring", ()), ("chain", ((1, "b"),)), ("chain", ((2, "a"), (2, "c"))), ("ring", DOWN[1]),
-                    ("ring", TURN[1][:2]), ("ring", TURN[1] + TURN[1][:1])):
+        for row in (("chain", ()), ("ring", ()), ("chain", ((1, "b"),)), ("chain", ((2, "a"), (2, "c"))),
+                    ("ring", DOWN[1]), ("ring", TURN[1][:2]), ("ring", TURN[1] + TURN[1][:1])):
             self.refused("end", 0, ("sure", (row, None, None)))
             self.refused("end", 2, ("sure", (TURN, DOWN, row)))
 
     def test_sum(self):
-        for row in (("ring", ((0, "b"), (0, "a"))), ("ring", ((2, "c"), (1, "b"), (0, "a"))), ("chain", ((1, "b"), (0, "a")))):
+        for row in (("ring", ((0, "b"), (0, "a"))), ("ring", ((2, "c"), (1, "b"), (0, "a"))),
+                    ("chain", ((1, "b"), (0, "a")))):
             self.refused("sum", 0, ("sure", (row, None, None)))
             self.refused("sum", 2, ("sure", (TURN, DOWN, row)))
         self.refused("sum", 1, ("sure", ROWS), ("c", 5))
@@ -186,9 +187,11 @@ class Checker(Case):
         self.refused("lot", -1, ("open", ("b",), (0, 6)), fears=(("a",), ("c",)))
         for gains in (None, True, (), (0,), (0, 0, 0), [0, 6], (0, True), (0, None), (0, "6"), (0, 4), (0, 8)):
             self.refused("gains", -1, ("open", ("b",), gains))
-        for gains, early, late in (((0, 5), ("c", 4), ("a", 0)), ((2, 9), ("c", 6), ("a", 0)), ((0, 7), ("a", 0), ("c", 8))):
+        for gains, early, late in (((0, 5), ("c", 4), ("a", 0)), ((2, 9), ("c", 6), ("a", 0)),
+                                   ((0, 7), ("a", 0), ("c", 8))):
             self.refused("ahead", -1, ("open", ("b",), gains), early, late)
-        for gains, early, late in (((0, 5), ("c", 5), ("a", 0)), ((0, 7), ("a", 0), ("c", 7)), ((1, 7), ("a", 0), ("c", 6))):
+        for gains, early, late in (((0, 5), ("c", 5), ("a", 0)), ((0, 7), ("a", 0), ("c", 7)),
+                                   ((1, 7), ("a", 0), ("c", 6))):
             self.assertIs(lets_claim(RING, EACH, ODD, early, late, ("open", ("b",), gains)), False)
 
     def test_the_first_entry_counts(self):

@@ -8,8 +8,8 @@ from nearhours.reaching import reaches
 from nearhours.surepairs import circle_of, sure_pairs
 from nearhours.suspects import suspects
 from tests.support import (
-    ALONE, EACH, LONG, ODD, RING, TWO, Case, explained_inquests, lots_of, parted_inquests, plain_reaches, plain_suspects,
-    plain_ways, plainly_fit,
+    ALONE, EACH, LONG, ODD, RING, TWO, Case, explained_inquests, lots_of, parted_inquests, plain_reaches,
+    plain_suspects, plain_ways, plainly_fit,
 )
 
 MET = (("a", "b", 5, 6),)
@@ -156,7 +156,8 @@ class Pairs(Case):
     def test_edges(self):
         self.same((sure_pairs(TWO, ((),), MET, ()), circle_of(TWO, ((),), MET, ())), ((), None))
         self.same((sure_pairs(ALONE, ((),), (), (("a", 0),)), circle_of(ALONE, ((),), (), (("a", 0),))), ((), None))
-        self.same(sure_pairs(ALONE, ((),), (), (("a", 1), ("a", 0), ("a", 1), ("a", 0))), ((1, 0), (1, 2), (3, 0), (3, 2)))
+        twice = (("a", 1), ("a", 0), ("a", 1), ("a", 0))
+        self.same(sure_pairs(ALONE, ((),), (), twice), ((1, 0), (1, 2), (3, 0), (3, 2)))
         self.same(sure_pairs(TWO, (("a",),), SPLIT, (("a", 9), ("b", 0))), ((0, 1), (1, 0)))
         self.assertIn(circle_of(TWO, (("a",),), SPLIT, (("a", 9), ("b", 0))), ((0, 1), (1, 0)))
         self.assertIn(circle_of(RING, EACH, ODD, TURN), ((0, 1, 2), (1, 2, 0), (2, 0, 1)))

@@ -134,7 +134,8 @@ class LieChecker(Case):
         self.refused("clash", 1, ("sure", (TURN, mild)), ((), ("a",)))
 
     def test_lot(self):
-        for lot in (None, True, 0, "b", ["b"], [], ("z",), ("b", "a"), ("b", "b"), (1,), ("a",), ("b", "c"), ("a", "b")):
+        for lot in (None, True, 0, "b", ["b"], [], ("z",), ("b", "a"), ("b", "b"), (1,), ("a",), ("b", "c"),
+                    ("a", "b")):
             self.refused("lot", -1, ("cleared", lot, None))
             self.refused("lot", -1, ("cleared", lot, (0, 6)))
         self.refused("lot", -1, ("cleared", ("a",), (0, 0)), (("a", "b"),))

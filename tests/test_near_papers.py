@@ -29,7 +29,8 @@ def grounds_for(town, fears, run):
             ties = plain_ties(town, run, [tower for tower in lot if tower not in (one, other)])
             right = [("chain", steps) for steps, end, _ in all_chains(ties, one) if end == other]
             for tower in town[0]:
-                right += [("ring", steps) for steps, end, total in all_chains(ties, tower) if end == tower and total < 0]
+                rings = [(steps, total) for steps, end, total in all_chains(ties, tower) if end == tower]
+                right += [("ring", steps) for steps, total in rings if total < 0]
             tables.append(right)
     return tables
 
@@ -144,7 +145,8 @@ class Checker(Case):
         right = near_paper(RING, EACH, ODD)[2]
         for k, ends in enumerate([ends for ends in itertools.permutations("abc", 2) for _ in EACH]):
             bare = [tower for tower in EACH[k % 3] if tower not in ends]
-            for steps in (((0, "b"), (1, "c"), (2, "a")), ((1, "c"), (2, "a"), (0, "b")), ((2, "a"), (0, "b"), (1, "c"))):
+            for steps in (((0, "b"), (1, "c"), (2, "a")), ((1, "c"), (2, "a"), (0, "b")),
+                          ((2, "a"), (0, "b"), (1, "c"))):
                 told = right[:k] + (("ring", steps),) + right[k + 1:]
                 bad = [j for j, (index, _) in enumerate(steps) if set(ODD[index][:2]) & set(bare)]
                 if bad:

@@ -12,7 +12,6 @@ from tests.support import (
     ALONE, EACH, RING, TWO, Case, heard_run, joined_town, lots_of, plain_feared, some_fears_of,
 )
 
-LANE = (("a", "b", "c"), (("a", "b", 0, 2), ("b", "c", 0, 3)))
 FOUR = (("a", "b", "c", "d"), tuple((one, other, 0, 2) for one, other in itertools.combinations("abcd", 2)))
 APART = (("a", "b"), ())
 

@@ -6,7 +6,7 @@ from nearhours.reaching import reach, reaches
 from nearhours.suspects import suspects
 from nearhours.worlds import does_explain
 from tests.support import (
-    ALONE, EACH, LONG, ODD, RING, TWO, WAY, Case, all_chains, explained_inquests, lots_of, plain_reaches, plain_ties,
+    ALONE, EACH, LONG, ODD, RING, WAY, Case, all_chains, explained_inquests, lots_of, plain_reaches, plain_ties,
     plainly_fit,
 )
 

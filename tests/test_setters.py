@@ -67,7 +67,8 @@ class Setters(Case):
 
     def test_nearness_by(self):
         self.same(self.it.nearness_by(setting=((0, 1),) * 3), (2, 1))
-        self.same(self.it.nearness_by(((0, 1), (1, 3), (1, 2))), nearness_of(RING, EACH, CALM, ((0, 1), (1, 3), (1, 2))))
+        setting = ((0, 1), (1, 3), (1, 2))
+        self.same(self.it.nearness_by(setting), nearness_of(RING, EACH, CALM, setting))
         for setting in (None, (), ((0, 1),) * 2, ((0, 1), (0, 1), (2, 2)), [(0, 1)] * 3, ((0, 1), (0, 1), (0, True))):
             self.not_usable("setting", -1, self.it.nearness_by, setting)
         self.assertIsNone(Setter(TWO, ((),), ()).nearness_by(((0, 1), (0, 1))))
@@ -122,7 +123,7 @@ class Setters(Case):
         before = state(self.it)
         for ask in (lambda: self.it.with_letter(CALM[0]), lambda: self.it.hour_set("a", 1),
                     lambda: self.it.nearness_by(((0, 1),) * 3), lambda: self.it.reach_between("a", "b")):
-            self.same(ask(), ask()) if not isinstance(ask(), Setter) else self.assertTrue(ask() == ask())
+            self.assertTrue(ask() == ask())
             self.same(state(self.it), before)
         for refused in (lambda: self.it.with_letter(None), lambda: self.it.hour_set("a", None),
                         lambda: self.it.nearness_by(None), lambda: self.it.reach_between("a", "a")):
