@@ -3,6 +3,7 @@
 from nearhours.errors import NotUsable
 from nearhours.events import could_be_ahead
 from nearhours.faults import is_event
+from nearhours.joins import events_of
 from nearhours.kinds import is_index
 from nearhours.refusals import refuse_asked, refuse_event, refuse_index, refuse_letter
 from nearhours.surepairs import circle_of, sure_pairs
@@ -104,10 +105,3 @@ class Annals:
         """The Annals of the events of the letters: when each was sent, and when it was heard."""
         refuse_asked(town, fears, run)
         return cls(town, fears, run, events_of(run))
-
-
-def events_of(run):
-    """The events of the letters, ascending, each once."""
-    return tuple(sorted({
-        event for one, other, sent, heard in run for event in ((one, sent), (other, heard))
-    }))

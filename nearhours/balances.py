@@ -19,6 +19,13 @@ def is_more(one, other):
     return one[0] * other[1] > other[0] * one[1]
 
 
+def is_nearer(one, other):
+    """Whether a nearness is less than another one, None being more than all fractions."""
+    if one is None or other is None:
+        return one is not None
+    return is_more(other, one)
+
+
 def greatest_of(fractions):
     """The greatest one of 0 and of these fractions."""
     greatest = (0, 1)
@@ -26,6 +33,14 @@ def greatest_of(fractions):
         if is_more(one, greatest):
             greatest = one
     return greatest
+
+
+def mean_of_all(fractions):
+    """The mean of these fractions, 0 of none."""
+    top, bottom = 0, 1
+    for one in fractions:
+        top, bottom = least_terms(top * one[1] + one[0] * bottom, bottom * one[1])
+    return least_terms(top, bottom * len(fractions)) if fractions else (0, 1)
 
 
 def what_remains(most, of_one, of_other):

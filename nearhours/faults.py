@@ -1,4 +1,4 @@
-"""The first fault of any value that is to be a town, a run or fears: (word, at), None without one."""
+"""The first fault of any value that is to be a town, a run, fears or rates: (word, at), None without one."""
 
 from nearhours.joins import bounds_by_ends
 from nearhours.kinds import are_integers, is_ascending, is_integer, is_towers, is_tuple
@@ -79,4 +79,21 @@ def fears_fault(town, thing):
             return "lot", k
         if k > 0 and lot <= thing[k - 1]:
             return "order", k
+    return None
+
+
+def is_rate(thing):
+    """Whether it is a pair of integers from -999 to 999, the first one at most the second."""
+    return are_integers(thing, 2) and -999 <= thing[0] <= thing[1] <= 999
+
+
+def rates_fault(town, thing):
+    """The first fault of any value as rates of the town."""
+    if not isinstance(thing, tuple):
+        return "shape", -1
+    if len(thing) != len(town[0]):
+        return "many", -1
+    for k, rate in enumerate(thing):
+        if not is_rate(rate):
+            return "rate", k
     return None

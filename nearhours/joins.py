@@ -29,3 +29,10 @@ def is_outside(letter, lot):
 def is_part(lot, whole):
     """Whether all towers of the lot are in the other one."""
     return all([tower in whole for tower in lot])
+
+
+def events_of(run):
+    """The events of the letters, ascending, each once: when each was sent, and when it was heard."""
+    return tuple(sorted({
+        event for one, other, sent, heard in run for event in ((one, sent), (other, heard))
+    }))

@@ -34,6 +34,13 @@ def is_fraction(thing):
     return thing[1] >= 1 and gcd(thing[0], thing[1]) == 1
 
 
+def is_letter_form(thing):
+    """Whether it is a quadruple of two names and two integers."""
+    if not is_tuple(thing, 4):
+        return False
+    return is_name(thing[0]) and is_name(thing[1]) and are_integers(thing[2:], 2)
+
+
 def is_index(thing, many):
     """Whether it is an index of so many things."""
     return is_number(thing) and thing < many

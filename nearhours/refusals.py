@@ -2,9 +2,11 @@
 
 from nearhours.courses import explains
 from nearhours.doubts import is_explained
+from nearhours.drifts import is_explained_at
 from nearhours.errors import InvalidPaper, NotUsable
-from nearhours.faults import fears_fault, is_event, is_letter, is_lot, run_fault, town_fault
-from nearhours.kinds import are_fractions, are_integers, is_index
+from nearhours.faults import fears_fault, is_event, is_letter, is_lot, rates_fault, run_fault, town_fault
+from nearhours.houselogs import is_log
+from nearhours.kinds import are_fractions, are_integers, is_index, is_number
 
 
 def refuse_paper(fault):
@@ -58,6 +60,32 @@ def refuse_quarrel(town, fears, run):
         raise NotUsable("run", -1)
 
 
+def refuse_rates(town, rates):
+    """Raises NotUsable for what are no rates of the town."""
+    if rates_fault(town, rates) is not None:
+        raise NotUsable("rates", -1)
+
+
+def refuse_drift(town, rates, fears, run):
+    """Raises NotUsable for what is no town, no rates of it, no fears of it, or no run of it."""
+    refuse_town(town)
+    refuse_rates(town, rates)
+    refuse_fears(town, fears)
+    refuse_run(town, run)
+
+
+def refuse_hours(town, hours):
+    """Raises NotUsable for what is no tuple with an integer for each tower."""
+    if not are_integers(hours, len(town[0])):
+        raise NotUsable("hours", -1)
+
+
+def refuse_quarrel_at(town, rates, fears, run):
+    """Raises NotUsable for a run that no feared lot explains at rates."""
+    if not is_explained_at(town, rates, fears, run):
+        raise NotUsable("run", -1)
+
+
 def refuse_letter(town, letter):
     """Raises NotUsable for what is no letter of the town."""
     if not is_letter(town, letter):
@@ -68,6 +96,12 @@ def refuse_index(many, index):
     """Raises NotUsable for what is no index of so many things."""
     if not is_index(index, many):
         raise NotUsable("index", index)
+
+
+def refuse_many(many):
+    """Raises NotUsable for what is no number from 1 on."""
+    if not is_number(many) or many == 0:
+        raise NotUsable("many", many)
 
 
 def refuse_setting(town, setting):
@@ -136,3 +170,9 @@ def refuse_text(text):
     """Raises NotUsable for what is no string."""
     if not isinstance(text, str):
         raise NotUsable("text", -1)
+
+
+def refuse_log(log):
+    """Raises NotUsable for what is no log."""
+    if not is_log(log):
+        raise NotUsable("log", -1)

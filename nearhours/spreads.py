@@ -4,16 +4,19 @@ from nearhours.courses import least_sums, ring_by, steps_back, ties_between
 from nearhours.joins import outside_of
 
 
-def gains_from(town, run, lot, one):
-    """Gains for the lot that fit, that of each tower being as much more than one's as can be.
+def farthest_gains(ties, places, start):
+    """Gains of the places, by these ties, each being as much more than start's as can be.
 
-    Of a tower to which no chain leads the gain is whatever fits.
+    Of a place to which no chain leads the gain is whatever fits.
     """
-    towers = outside_of(town, lot)
-    ties = ties_between(town, run, lot)
-    sums, _, _ = least_sums(ties, towers, len(towers))
-    told, _, _ = least_sums(ties, (one,), len(towers))
-    return tuple([told.get(tower, sums[tower]) for tower in towers])
+    sums, _, _ = least_sums(ties, places, len(places))
+    told, _, _ = least_sums(ties, (start,), len(places))
+    return tuple([told.get(place, sums[place]) for place in places])
+
+
+def gains_from(town, run, lot, one):
+    """Gains for the lot that fit, that of each tower being as much more than one's as can be."""
+    return farthest_gains(ties_between(town, run, lot), outside_of(town, lot), one)
 
 
 def part_with(town, run, lot, tower):

@@ -4,7 +4,7 @@ from nearhours.errors import InvalidText
 from nearhours.joins import bounds_by_ends
 from nearhours.kinds import is_name
 from nearhours.refusals import refuse_text, refuse_town
-from nearhours.wordreading import is_decimal, misfit_field
+from nearhours.wordreading import is_decimal, misfit_field, refuse_field
 
 
 def town_read(text):
@@ -37,12 +37,6 @@ def run_read(town, text):
         refuse_field(k, letter_misfit(words, town[0], bounds))
         run.append((words[1], words[2], int(words[3]), int(words[4])))
     return tuple(run)
-
-
-def refuse_field(line, field):
-    """Raises InvalidText if there is a field from which on the line is not possible."""
-    if field is not None:
-        raise InvalidText(line, field)
 
 
 def tower_misfit(words, towers):

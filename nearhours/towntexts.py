@@ -1,7 +1,7 @@
 """Towns and runs written as lines of words."""
 
 from nearhours.errors import NotUsable
-from nearhours.kinds import are_integers, is_name, is_tuple
+from nearhours.kinds import is_letter_form
 from nearhours.refusals import refuse_town
 
 
@@ -19,13 +19,16 @@ def run_text(run):
     return lines_of([("letter", *letter) for letter in run]) if run else "-"
 
 
-def is_letter_form(thing):
-    """Whether any value is a quadruple of two names and two integers."""
-    if not is_tuple(thing, 4):
-        return False
-    return is_name(thing[0]) and is_name(thing[1]) and are_integers(thing[2:], 2)
-
-
 def lines_of(rows):
-    """The rows as lines, their words with single spaces between."""
-    return "\n".join([" ".join([str(word) for word in row]) for row in rows])
+    """The rows as lines."""
+    return "\n".join([line_of(row) for row in rows])
+
+
+def line_of(row):
+    """The words of a row with single spaces between."""
+    return " ".join([str(word) for word in row])
+
+
+def lot_words(lot, nobody):
+    """The towers of the lot with + between, the word nobody if it has none."""
+    return "+".join(lot) if lot else nobody

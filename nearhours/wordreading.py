@@ -1,5 +1,7 @@
 """How words and lines of words are read."""
 
+from nearhours.errors import InvalidText
+
 
 def is_decimal(word):
     """Whether the word writes an integer, of at most sixty digits, in the one way allowed."""
@@ -7,6 +9,11 @@ def is_decimal(word):
     if not digits.isascii() or not digits.isdigit() or len(digits) > 60:
         return False
     return word == "0" or digits[0] != "0"
+
+
+def is_count(word, least):
+    """Whether the word writes an integer that is at least so much."""
+    return is_decimal(word) and int(word) >= least
 
 
 def misfit_field(words, many, stands):
@@ -19,3 +26,9 @@ def misfit_field(words, many, stands):
         if field == len(words) or not stands(field):
             return field
     return many if len(words) > many else None
+
+
+def refuse_field(line, field):
+    """Raises InvalidText if there is a field from which on the line is not possible."""
+    if field is not None:
+        raise InvalidText(line, field)

@@ -41,5 +41,6 @@ class Examples(unittest.TestCase):
 
     def test_each_point_is_there(self):
         points = {point for point, _, told in read_examples() if told is not None}
-        wanted = (11, 12, 13, 14, 15, 18, 19, 23, 24, 27, 28, 31, 32, 34, 36, 37, 40, 43, 47, 48, 51, 53, 55, 56, 59)
+        wanted = (11, 12, 13, 14, 15, 18, 19, 23, 24, 27, 28, 31, 32, 34, 36, 37, 40, 43, 47, 48, 51, 53, 55, 56, 59,
+                  62, 64, 67, 68, 69, 70, 71, 72, 78, 80, 82, 87, 89)
         self.assertEqual(points, {f"[{number}]" for number in wanted})

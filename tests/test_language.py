@@ -16,7 +16,7 @@ NODES = set("""
     Module FunctionDef ClassDef Return Assign For While If Raise Expr Pass Break Continue BoolOp BinOp UnaryOp
     Lambda IfExp Dict SetComp ListComp DictComp Compare Call JoinedStr FormattedValue Constant Attribute
     Subscript Starred Name List Tuple Slice Load Store And Or Add Sub Mult FloorDiv Mod Not USub Eq NotEq Lt
-    LtE Gt GtE Is IsNot In NotIn comprehension arguments arg keyword ImportFrom alias
+    LtE Gt GtE Is IsNot In NotIn comprehension arguments arg keyword ImportFrom alias Try ExceptHandler AugAssign
 """.split())
 BUILTINS = set("""
     len range enumerate zip min max sum abs sorted reversed int str bool list tuple dict set isinstance repr any
@@ -30,6 +30,9 @@ METHODS = set("""
 DUNDERS = set("""
     __init__ __eq__ __repr__ __str__ __len__ __call__ __iter__ __lt__ __add__ __sub__ __or__ __xor__ __contains__
     __getitem__
+""".split())
+CHANGING = set("""
+    append clear extend insert pop remove reverse setdefault sort update add discard
 """.split())
 BARRED = set("""
     register mro elements open input law version_info with_traceback add_note attrgetter breakpoint builtins
@@ -103,6 +106,52 @@ def imports_of(tree):
 def methods_of(tree):
     rows = [row for top in tree.body if isinstance(top, ast.ClassDef) for row in top.body]
     return {row.name: row for row in rows if isinstance(row, ast.FunctionDef)}
+
+
+def class_values(tree):
+    """The names that the classes of a file give values to in their bodies."""
+    rows = [row for top in tree.body if isinstance(top, ast.ClassDef) for row in top.body]
+    return {row.targets[0].id for row in rows if isinstance(row, ast.Assign)}
+
+
+def all_functions():
+    """All functions and methods of the package, by name, and the __init__ of each class by its name."""
+    found = {}
+    for tree in TREES.values():
+        for top in tree.body:
+            for row in top.body if isinstance(top, ast.ClassDef) else [top]:
+                if isinstance(row, ast.FunctionDef):
+                    is_made = isinstance(top, ast.ClassDef) and row.name == "__init__"
+                    found.setdefault(top.name if is_made else row.name, []).append(row)
+    return found
+
+
+def still_ones():
+    """The properties and operators, the methods like them, and all functions and methods that these call."""
+    known = all_functions()
+    queue = [row for rows in known.values() for row in rows
+             if row.name.startswith("__") and row.name not in ("__init__", "__call__")
+             or "property" in [one.id for one in row.decorator_list]]
+    for row in queue:
+        names = {called(node) for node in ast.walk(row)}
+        # A property is run when it is read.
+        names |= {node.attr for node in ast.walk(row) if isinstance(node, ast.Attribute)}
+        for name in names & set(known):
+            queue.extend(one for one in known[name] if one not in queue)
+    return queue
+
+
+def own_names(row):
+    """The local names of a function that are assigned nothing but lists and dicts that it creates itself."""
+    makers = (ast.List, ast.ListComp, ast.Dict)
+    told = {}
+    for node in ast.walk(row):
+        targets = node.targets if isinstance(node, ast.Assign) else []
+        for target in targets:
+            if isinstance(target, ast.Name):
+                fine = isinstance(node.value, makers) or called(node.value) in ("list", "dict", "sorted")
+                told.setdefault(target.id, []).append(fine)
+    return {name for name, fine in told.items() if all(fine)}
 
 
 class Language(unittest.TestCase):
@@ -193,7 +242,8 @@ class Language(unittest.TestCase):
                 self.assertNotIn(one, BARRED | set(dir(builtins)), name)
             for node in ast.walk(tree):
                 if isinstance(node, ast.Name) and isinstance(node.ctx, ast.Load):
-                    known = bound | told | BUILTINS | {"property", "staticmethod", "classmethod"}
+                    known = bound | told | BUILTINS | {"property", "staticmethod", "classmethod", "super"}
+                    known |= {one.name for one in ast.walk(tree) if isinstance(one, ast.ExceptHandler)}
                     self.assertIn(node.id, known - {"_"}, f"{name}:{node.lineno}")
 
     def test_methods_and_attributes(self):
@@ -201,17 +251,20 @@ class Language(unittest.TestCase):
         own = {method for tree in TREES.values() for method in methods_of(tree)}
         stored = {node.attr for _, node in self.each_node()
                   if isinstance(node, ast.Attribute) and isinstance(node.ctx, ast.Store)}
-        self.assertFalse(stored & own)
-        self.assertFalse((stored | own) & (ATTRIBUTES | BARRED))
+        values = {one for tree in TREES.values() for one in class_values(tree)}
+        self.assertFalse(stored & own or stored & values or own & values)
+        self.assertFalse((stored | own | values) & (ATTRIBUTES | BARRED))
         for method in own:
             self.assertTrue(method in DUNDERS or re.match(r"^_?[a-z]", method), method)
         for name, tree in TREES.items():
             for node, above in with_parents(tree):
                 if isinstance(node, ast.Attribute):
                     is_called = isinstance(above, ast.Call) and above.func is node
-                    known = own | (METHODS if is_called else stored)
+                    known = own | (METHODS if is_called else stored | values)
                     self.assertIn(node.attr, known, f"{name}:{node.lineno}")
-                    self.assertFalse(is_called and node.attr in DUNDERS, f"{name}:{node.lineno}")
+                    is_above = called(node.value) == "super"
+                    self.assertFalse(is_called and node.attr in DUNDERS and not is_above, f"{name}:{node.lineno}")
+                    self.assertTrue(not is_above or node.attr == "__init__", f"{name}:{node.lineno}")
 
     def test_decorators(self):
         """L4, L5."""
@@ -245,6 +298,39 @@ class Language(unittest.TestCase):
             if isinstance(node, ast.Raise):
                 self.assertIn(called(node.exc), errors, place)
                 self.assertIsNone(node.cause, place)
+
+    def test_tries(self):
+        """L6 Finally, L19: own errors are caught by name, and what is always done assigns an attribute."""
+        errors = top_names(TREES["errors"])
+        for place, node in self.each_node():
+            if isinstance(node, ast.Try):
+                self.assertEqual(node.orelse, [], place)
+                for handler in node.handlers:
+                    self.assertIn(handler.type.id, errors, place)
+                for row in node.finalbody:
+                    self.assertIsInstance(row, ast.Assign, place)
+                    self.assertIsInstance(row.targets[0], ast.Attribute, place)
+                    self.assertIsInstance(row.value, ast.Attribute, place)
+
+    def test_what_properties_and_operators_run(self):
+        """L5, L28: it changes nothing but lists and dicts of its own, and calls nothing that it is passed."""
+        rows = still_ones()
+        self.assertGreater(len(rows), 100)
+        for row in rows:
+            own = own_names(row)
+            passed = {one.arg for one in row.args.args}
+            for node in ast.walk(row):
+                place = f"{row.name}:{node.lineno}" if hasattr(node, "lineno") else row.name
+                self.assertNotIsInstance(node, (ast.AugAssign, ast.Try, ast.Lambda), place)
+                if isinstance(node, ast.Attribute) and not isinstance(node.ctx, ast.Load):
+                    self.assertEqual(row.name, "__init__", place)
+                if isinstance(node, ast.Subscript) and not isinstance(node.ctx, ast.Load):
+                    self.assertIn(getattr(node.value, "id", None), own, place)
+                if isinstance(node, ast.Call) and isinstance(node.func, ast.Attribute):
+                    if node.func.attr in CHANGING:
+                        self.assertIn(getattr(node.func.value, "id", None), own, place)
+                if isinstance(node, ast.Call) and isinstance(node.func, ast.Name):
+                    self.assertNotIn(node.func.id, passed, place)
 
     def test_is(self):
         """L20."""
