@@ -1,6 +1,7 @@
 """What the tests share: values of the document, and how refusals are looked at."""
 
 import fractions
+import functools
 import itertools
 import random
 import unittest
@@ -264,3 +265,126 @@ def parted_inquests(seed, count, towers=(3, 4)):
         if plain_suspects(town, fears, tuple(run)):
             cases.append((town, fears, tuple(run)))
     return cases
+
+
+def some_rates(chance, town):
+    """Rates of the town by chance, of several kinds."""
+    far = chance.choice((0, 0, 1, 100, 500, 999))
+    rates = []
+    for _ in town[0]:
+        slow, fast = sorted((chance.randint(-far, far), chance.randint(-far, far)))
+        rates.append(chance.choice(((slow, fast), (slow, slow), (-far, far), (0, 0))))
+    return tuple(rates)
+
+
+def drift_run(chance, town, rates, liars, many):
+    """A run of so many letters, sent at hours far from one another, of clocks that gain or lose at rates.
+
+    They are sound, but for what is rounded, and for those from or to the liars.
+    """
+    start = {tower: chance.randint(-3, 3) for tower in town[0]}
+    rate_of = {tower: chance.randint(*rate) for tower, rate in zip(town[0], rates)}
+    letters = []
+    for _ in range(many if town[1] else 0):
+        one, other, low, high = chance.choice(town[1])
+        if chance.random() < 0.5:
+            one, other = other, one
+        sent = chance.choice((-20, -9, -2, 0, 0, 1, 3, 8, 15))
+        more = start[other] - start[one] + (rate_of[other] - rate_of[one]) * sent // 1000
+        late = chance.randint(low, high) + (chance.randint(-6, 6) if one in liars or other in liars else 0)
+        letters.append((one, other, sent, sent + more + late))
+    return tuple(letters)
+
+
+def some_drifts(seed, count, towers=(1, 2, 2, 3), letters=3):
+    """So many tuples of a town, rates, fears, a run and hours, explained at rates or not."""
+    chance = random.Random(seed)
+    cases = []
+    for _ in range(count):
+        town = joined_town(chance, chance.choice(towers))
+        rates = some_rates(chance, town)
+        fears = some_fears_of(chance, town[0]) if chance.random() < 0.6 else ((),)
+        liars = chance.choice(fears if chance.random() < 0.6 else lots_of(town[0]))
+        many = chance.choice((0, letters - 1, letters, letters, letters))
+        run = drift_run(chance, town, rates, liars, many)
+        hours = tuple(chance.choice((0, 1, 3, -2, -9, 15, 40)) for _ in town[0])
+        cases.append((town, rates, fears, run, hours))
+    return cases
+
+
+def plain_events(town, run, lot, hours):
+    """The events of the run, the lot and hours by the words of [66], ascending."""
+    events = {(tower, hour) for tower, hour in zip(town[0], hours) if tower not in lot}
+    for one, other, sent, heard in run:
+        if one not in lot and other not in lot:
+            events |= {(one, sent), (other, heard)}
+    return sorted(events)
+
+
+def plain_ties_at(town, rates, run, lot, hours):
+    """What binds the gains of events by the words of [66]: ties (event, event, most, k) of Python's fractions.
+
+    Each two events of one tower are bound, not only those that follow one another.
+    """
+    ties = []
+    for k, (one, other, sent, heard) in enumerate(run):
+        if one not in lot and other not in lot:
+            low, high = [wire[2:] for wire in town[1] if set(wire[:2]) == {one, other}][0]
+            ties.append(((one, sent), (other, heard), fractions.Fraction(heard - sent - low), k))
+            ties.append(((other, heard), (one, sent), fractions.Fraction(high - (heard - sent)), k))
+    for early, late in itertools.combinations(plain_events(town, run, lot, hours), 2):
+        if early[0] == late[0]:
+            slow, fast = rates[town[0].index(early[0])]
+            ties.append((early, late, fractions.Fraction((late[1] - early[1]) * fast, 1000), None))
+            ties.append((late, early, fractions.Fraction((early[1] - late[1]) * slow, 1000), None))
+    return ties
+
+
+@functools.lru_cache(maxsize=None)
+def plain_suspects_at(town, rates, fears, run):
+    """All suspects at rates, by all rings of events that pass no event twice."""
+    found = []
+    for lot in plain_feared(fears):
+        ties = plain_ties_at(town, rates, run, lot, (0,) * len(town[0]))
+        starts = {tie[0] for tie in ties}
+        if not any(end == start and total < 0 for start in starts for _, end, total in all_chains(ties, start)):
+            found.append(lot)
+    return tuple(found)
+
+
+def plain_reaches_at(town, rates, fears, run, hours):
+    """All told reaches at hours, by all suspects and all chains of events that pass no event twice."""
+    found = {}
+    for lot in plain_suspects_at(town, rates, fears, run):
+        ties = plain_ties_at(town, rates, run, lot, hours)
+        asked = [(tower, hour) for tower, hour in zip(town[0], hours) if tower not in lot]
+        for start in asked:
+            sums = {}
+            for _, end, total in all_chains(ties, start):
+                sums[end] = min(total, sums.get(end, total))
+            for end in asked:
+                if end != start:
+                    found.setdefault((start[0], end[0]), []).append(sums.get(end))
+    return tuple((*pair, None if None in found[pair] else max(found[pair])) for pair in sorted(found))
+
+
+def plain_nearest(towers, rows):
+    """The least nearness by all circles of told reaches, one of Python's fractions; None without."""
+    if None in [most for _, _, most in rows]:
+        return None
+    return max([fractions.Fraction(0), *plain_means(towers, rows).values()])
+
+
+def in_fractions(rows):
+    """Told reaches as the document has them at hours."""
+    return tuple((one, other, None if most is None else as_pair(fractions.Fraction(most))) for one, other, most in rows)
+
+
+def some_settings(chance, towers, best, many):
+    """Settings by chance: any, and some that lie close to one that is told."""
+    found = []
+    for _ in range(many):
+        near = best if best is not None and chance.random() < 0.7 else ((0, 1),) * len(towers)
+        steps = [fractions.Fraction(chance.randint(-6, 6), chance.choice((1, 2, 3, 7, 1000))) for _ in towers]
+        found.append(tuple(as_pair(fractions.Fraction(*one) + step) for one, step in zip(near, steps)))
+    return found
