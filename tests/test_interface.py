@@ -43,6 +43,25 @@ FUNCTIONS = {
     "claimpapers": {"claim_paper": "town fears run early late"},
     "claimchecker": {"lets_claim": "town fears run early late thing"},
     "parting": {name: "town fears" for name in ("three_lots", "two_lots", "is_bounded", "play_of", "bound_of")},
+    "breaking": {"breaking_run": "town fears many"},
+    "boundpapers": {"unbound_paper": "town fears"},
+    "boundchecker": {"lets_unbound": "town fears thing"},
+    "rates": {"lets_rates": "town thing"},
+    "drifting": {
+        "suspects_at": "town rates fears run", "reach_at": "town rates fears run hours one other",
+        "reaches_at": "town rates fears run hours", "nearest_at": "town rates fears run hours",
+        "setting_at": "town rates fears run hours", "nearness_at": "town rates fears run hours setting"},
+    "waiting": {"last_hour": "town rates fears run first most"},
+    "driftpapers": {"apart_paper": "town rates fears run hours"},
+    "driftchecker": {"lets_apart": "town rates fears run hours thing"},
+    "onemore": {
+        "nearest_after": "town fears run letter", "hours_explained": "town fears run one other sent first last",
+        "worth_between": "town fears run one other sent first last"},
+    "houselogs": {"is_log": "thing"},
+    "houseruns": {"house_through": "house events"},
+    "replaying": {"replayed": "log"},
+    "eventtexts": {"event_line": "event", "log_lines": "log"},
+    "eventreadings": {"read_event": "line", "read_log": "lines"},
 }
 CLASSES = {
     ("towns", "Town"): {
@@ -74,6 +93,30 @@ CLASSES = {
         "__iter__": 1, "__eq__": 2, "__call__": "self early late", "sure_before": "self index",
         "sure_after": "self index", "with_event": "self event", "with_letter": "self letter", "of": "town fears run",
     },
+    ("fearings", "Fearing"): {
+        "__init__": "self town *fears", "town_now": None, "fears_now": None, "bounded_now": None, "play_now": None,
+        "bound_now": None, "__contains__": 2, "__iter__": 1, "__len__": 1, "__eq__": 2, "__str__": 1, "__add__": 2,
+        "__sub__": 2, "given_up": "self", "joining": "self", "needed": "self",
+    },
+    ("watches", "Watch"): {
+        "__init__": "self town rates fears run", "town_now": None, "rates_now": None, "fears_now": None,
+        "run_now": None, "lots_now": None, "is_explained": "self", "__call__": "self hours", "set_for": "self hours",
+        "reach_for": "self hours tower other", "last_for": "self first most", "paper_for": "self hours",
+        "judged": "self hours thing", "__add__": 2, "__getitem__": 2, "__contains__": 2, "__len__": 1, "__iter__": 1,
+        "__eq__": 2,
+    },
+    ("houses", "House"): {
+        "__init__": "self town fears", "town_now": None, "fears_now": None, "heard_now": None, "run_now": None,
+        "suspects_now": None, "sure_now": None, "nearest_now": None, "setting_now": None, "state": "self",
+        "hear": "self letter", "lose": "self index", "apply": "self event", "barred": "self event",
+        "tried": "self *events", "undo": "self", "do_all": "self *events keep", "tally": "self", "log": "self",
+        "__contains__": 2, "__len__": 1, "__iter__": 1, "__eq__": 2,
+    },
+    ("trusty", "Trusty"): {
+        "__init__": "self town fears", "hear": "self letter", "apply": "self event", "barred": "self event",
+        "tried": "self *events", "do_all": "self *events keep",
+    },
+    ("desk", "Desk"): {"__init__": "self", "say": "self row", "counts": "self"},
 }
 
 
@@ -114,5 +157,7 @@ class Interface(unittest.TestCase):
         towns = importlib.import_module("nearhours.towns")
         for name in ("of", "read"):
             self.assertIsInstance(vars(towns.Town)[name], staticmethod)
+        houses = importlib.import_module("nearhours.houses")
+        self.assertIs(inspect.signature(houses.House.do_all).parameters["keep"].kind, inspect.Parameter.KEYWORD_ONLY)
         annals = importlib.import_module("nearhours.annals")
         self.assertIsInstance(vars(annals.Annals)["of"], classmethod)

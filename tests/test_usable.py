@@ -4,21 +4,34 @@ import copy
 import itertools
 
 from nearhours.annals import Annals
+from nearhours.boundchecker import lets_unbound
+from nearhours.boundpapers import unbound_paper
+from nearhours.breaking import breaking_run
 from nearhours.circles import room_between, worst_circle
 from nearhours.claimchecker import lets_claim
 from nearhours.claimpapers import claim_paper
 from nearhours.clashes import clash
+from nearhours.desk import Desk
+from nearhours.driftchecker import lets_apart
+from nearhours.drifting import nearest_at, nearness_at, reach_at, reaches_at, setting_at, suspects_at
+from nearhours.driftpapers import apart_paper
+from nearhours.eventreadings import read_event, read_log
 from nearhours.events import could_be_ahead, gap, shown_at, surely_ahead
 from nearhours.explainchecker import lets_explained
 from nearhours.explaining import explain_paper
 from nearhours.fearchecker import lets_fears
+from nearhours.fearings import Fearing
 from nearhours.fears import feared_lots, greatest_fears, is_feared
+from nearhours.houselogs import is_log
+from nearhours.houses import House
 from nearhours.inquests import Inquest
 from nearhours.liechecker import lets_lie, lets_quarrel
 from nearhours.liepapers import lie_paper, quarrel_paper
 from nearhours.nearchecker import lets_near
 from nearhours.nearpapers import near_paper
+from nearhours.onemore import nearest_after
 from nearhours.parting import bound_of, is_bounded, play_of, three_lots, two_lots
+from nearhours.rates import lets_rates
 from nearhours.reaching import reach, reaches
 from nearhours.ringchecker import lets_ring
 from nearhours.ringpapers import ring_paper
@@ -34,6 +47,7 @@ from nearhours.townparts import neighbors, widest, wire_of
 from nearhours.townreadings import run_read
 from nearhours.towns import Town
 from nearhours.towntexts import run_text, town_text
+from nearhours.watches import Watch
 from nearhours.waycourses import Ways
 from nearhours.ways import chain_of, way
 from nearhours.worlds import do_fit, does_explain, some_gains
@@ -43,7 +57,8 @@ from tests.support import EACH, ODD, ODDITIES, RING, Case
 RIGHT = {
     "town": RING, "run": ODD, "lot": ("b",), "one": "a", "other": "c", "tower": "a", "fears": EACH,
     "gains": (0, 5), "lates": (0, 0, 0), "thing": (), "text": "-", "setting": ((0, 1), (1, 2), (-3, 1)),
-    "event": ("b", 0), "early": ("a", 0), "late": ("c", 4), "events": (("a", 0), ("b", 2)),
+    "event": ("b", 0), "early": ("a", 0), "late": ("c", 4), "events": (("a", 0), ("b", 2)), "many": 1,
+    "rates": ((0, 0), (-10, 10), (5, 5)), "hours": (0, 1, -7), "letter": ODD[0],
 }
 WRONG = {
     "town": ODDITIES + (RING[:1], (RING[0], RING[1][::-1]), list(RING), (("a",), (("a", "b", 0, 2),))),
@@ -63,8 +78,14 @@ WRONG = {
     "early": (None, True, "a", (), ("a",), ("z", 0), ("a", True), ["a", 0], ("a", 0, 0)),
     "late": (None, True, "a", (), ("a",), ("z", 0), ("a", True), ["a", 0], ("a", 0, 0)),
     "events": (None, True, "", 0, [], [("a", 0)]),
+    "many": (0, -1, True, False, None, "", "1", (), [1], (1,)),
+    "rates": (None, True, (), ((0, 0),) * 2, [(0, 0)] * 3, ((0, 0), (0, 0), (1, 0)), ((0, 0), (0, 0), (0, 1000)),
+              ((0, 0), (0, True), (0, 0)), ((0, 0),) * 4),
+    "hours": (None, True, (), (0, 0), [0, 0, 0], (0, 0, True), (0, 0, None), (0, 0, 0, 0)),
+    "letter": (None, True, (), ("a", "b", 0), ["a", "b", 0, 1], ("a", "b", 0, True), ("a", "z", 0, 1),
+               ("a", "a", 0, 1), ODD),
 }
-AT = ("one", "other", "tower")
+AT = ("one", "other", "tower", "many")
 
 CALLS = (
     (wire_of, "town one other"), (neighbors, "town tower"), (widest, "town"), (lets_run, "town"),
@@ -79,6 +100,9 @@ CALLS = (
     (lie_paper, "town fears run tower"), (quarrel_paper, "town fears run"), (lets_lie, "town fears run tower"),
     (lets_quarrel, "town fears run"), (Inquest, "town fears run"), (three_lots, "town fears"),
     (two_lots, "town fears"), (is_bounded, "town fears"), (play_of, "town fears"), (bound_of, "town fears"),
+    (breaking_run, "town fears many"), (unbound_paper, "town fears"), (lets_unbound, "town fears"),
+    (lets_rates, "town"), (suspects_at, "town rates fears run"), (lets_apart, "town rates fears run hours"),
+    (Watch, "town rates fears run"), (House, "town fears"),
 )
 # Of these the run is to be one that some feared lot explains.
 EXPLAINED = (
@@ -90,10 +114,14 @@ EXPLAINED = (
     (surely_ahead, "town fears run early late"), (could_be_ahead, "town fears run early late"),
     (sure_pairs, "town fears run events"), (circle_of, "town fears run events"),
     (claim_paper, "town fears run early late"), (lets_claim, "town fears run early late"),
-    (Annals, "town fears run events"), (Annals.of, "town fears run"),
+    (Annals, "town fears run events"), (Annals.of, "town fears run"), (nearest_after, "town fears run letter"),
+    (reach_at, "town rates fears run hours one other"), (reaches_at, "town rates fears run hours"),
+    (nearest_at, "town rates fears run hours"), (setting_at, "town rates fears run hours"),
+    (nearness_at, "town rates fears run hours setting"), (apart_paper, "town rates fears run hours"),
 )
 CALLS = CALLS + EXPLAINED
-CHECKERS = (lets_run, lets_explained, lets_fears, lets_lie, lets_quarrel, lets_ring, lets_near, lets_claim)
+CHECKERS = (lets_run, lets_explained, lets_fears, lets_lie, lets_quarrel, lets_ring, lets_near, lets_claim,
+            lets_unbound, lets_rates, lets_apart)
 
 
 def right_for(call, names):
@@ -158,6 +186,15 @@ class Usable(Case):
             self.refusal(lets_fears, RING, thing)
             for checker in (lets_quarrel, lets_ring, lets_near):
                 self.refusal(checker, RING, EACH, ODD, thing)
+            self.refusal(lets_unbound, RING, EACH, thing)
+            self.refusal(lets_rates, RING, thing)
+            self.refusal(lets_apart, RING, RIGHT["rates"], EACH, ODD, (0, 0, 0), thing)
+            self.refusal(Fearing, RING, thing)
+            self.refusal(House(RING, EACH).apply, thing)
+            self.refusal(Desk().say, thing)
+            self.refusal(read_event, thing)
+            self.refusal(read_log, thing)
+            self.assertFalse(is_log(thing) or thing in House(RING, EACH) or thing in Fearing(RING, ("a",)))
             self.refusal(lets_lie, RING, EACH, ODD, "a", thing)
             self.refusal(lets_claim, RING, EACH, ODD, ("a", 0), ("b", 0), thing)
             self.refusal(Town, thing)
