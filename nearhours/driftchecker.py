@@ -5,13 +5,12 @@ from nearhours.doubts import has_any, is_under
 from nearhours.drifts import all_events, do_fit_at
 from nearhours.faults import is_lot
 from nearhours.kinds import is_fraction, is_integer, is_tuple
-from nearhours.refusals import refuse_drift, refuse_hours, refuse_paper
+from nearhours.refusals import refuse_asked_at, refuse_paper
 
 
 def lets_apart(town, rates, fears, run, hours, thing):
     """The value of a paper, a fraction than which no setting at hours is nearer."""
-    refuse_drift(town, rates, fears, run)
-    refuse_hours(town, hours)
+    refuse_asked_at(town, rates, fears, run, hours)
     refuse_paper(apart_fault(town, rates, fears, run, hours, thing))
     return thing[1]
 

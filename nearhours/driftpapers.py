@@ -2,13 +2,12 @@
 
 from nearhours.balances import is_far, worst_of
 from nearhours.drifts import gains_by, in_hours, reaches_by, rows_by, suspects_by
-from nearhours.refusals import refuse_drift, refuse_hours, refuse_quarrel_at
+from nearhours.refusals import refuse_asked_at, refuse_quarrel_at
 
 
 def apart_paper(town, rates, fears, run, hours):
     """A paper that lets_apart accepts, its value the least nearness at hours; None if there is none."""
-    refuse_drift(town, rates, fears, run)
-    refuse_hours(town, hours)
+    refuse_asked_at(town, rates, fears, run, hours)
     refuse_quarrel_at(town, rates, fears, run)
     found = reaches_by(town, rates, suspects_by(town, rates, fears, run), run, hours)
     rows = rows_by(town, found)

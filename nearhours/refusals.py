@@ -74,8 +74,9 @@ def refuse_drift(town, rates, fears, run):
     refuse_run(town, run)
 
 
-def refuse_hours(town, hours):
-    """Raises NotUsable for what is no tuple with an integer for each tower."""
+def refuse_asked_at(town, rates, fears, run, hours):
+    """Raises NotUsable for what is not such, and for hours that are no tuple with an integer for each tower."""
+    refuse_drift(town, rates, fears, run)
     if not are_integers(hours, len(town[0])):
         raise NotUsable("hours", -1)
 

@@ -91,6 +91,17 @@ class Papers(Case):
         later = (("a", (), LATER), ("b", (), (("a", 5, (1, 1)), ("a", 15, (2, 1)), ("b", 6, (0, 1)))))
         self.same(lets_apart(TWO, FAST, NONE, ONE, (15, 6), ("apart", (2, 1), later)), (2, 1))
 
+    def test_means_not_in_least_terms(self):
+        flat = (("a", 5, (3, 7)), ("b", 6, (3, 7)))
+        steps = STEPS + (("a", (), flat), ("b", (), flat))
+        # Two hours over four steps, and two thirds of an hour over two.
+        self.same(lets_apart(TWO, FAST, NONE, ONE, (5, 6), ("apart", (1, 2), steps)), (1, 2))
+        self.invalid("mean", -1, lets_apart, TWO, FAST, NONE, ONE, (5, 6), ("apart", (1, 2), steps + steps[2:]))
+        self.invalid("value", -1, lets_apart, TWO, FAST, NONE, ONE, (5, 6), ("apart", (2, 4), steps))
+        thirds = (("a", (), (("a", 5, (1, 3)), ("b", 6, (2, 3)))), ("b", (), (("a", 5, (2, 3)), ("b", 6, (1, 3)))))
+        self.same(lets_apart(TWO, FAST, NONE, ONE, (5, 6), ("apart", (1, 3), thirds)), (1, 3))
+        self.invalid("mean", -1, lets_apart, TWO, FAST, NONE, ONE, (5, 6), ("apart", (2, 3), thirds))
+
     def test_a_tower_several_times(self):
         run = (("a", "b", 0, 1), ("b", "c", 0, 1), ("a", "c", 0, 1))
         there = (("a", 0, (0, 1)), ("b", 0, (1, 1)), ("b", 1, (1, 1)), ("c", 0, (1, 1)), ("c", 1, (1, 1)))

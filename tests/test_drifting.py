@@ -225,6 +225,17 @@ class LastHour(Case):
         self.same(last_hour(ALONE, ((-999, 999),), NONE, (), 5, (0, 1)), 68)
 
 
+    def test_refusals(self):
+        for town in ODDITIES:
+            self.not_usable("town", -1, last_hour, town, None, None, None, 0, (1, 1))
+        for rates in (None, (), STILL * 2, list(FAST), ((0, 0), (1, 0))):
+            self.not_usable("rates", -1, last_hour, TWO, rates, None, None, 0, (1, 1))
+        for fears in (None, (), [()], (("b",), ("a",)), (("z",),)):
+            self.not_usable("fears", -1, last_hour, TWO, FAST, fears, None, 0, (1, 1))
+        for run in (None, [], (None,), (("a", "b", 0, True),), (("a", "z", 0, 1),)):
+            self.not_usable("run", -1, last_hour, TWO, FAST, NONE, run, 0, (1, 1))
+
+
 class Consequences(Case):
     def test_rates_of_0(self):
         chance = random.Random(730)

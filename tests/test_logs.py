@@ -20,7 +20,7 @@ LOG = (START, *HEARD, ("lose", 1))
 LINES = ["house 6 3", "tower a", "tower b", "tower c", "wire a b 0 2", "wire a c 0 2", "wire b c 0 2", "lot a", "lot b",
          "lot c", "hear a b 0 1", "hear b c 0 1", "hear c a 0 -5", "lose 1"]
 NO_LOGS = ODDITIES + (
-    START, (START, None), [START], list(LOG), (list(START),), (START[:2],), (START + (0,),), (("House", RING, EACH),),
+    (), START, (START, None), [START], list(LOG), (list(START),), (START[:2],), (START + (0,),), (("House", RING, EACH),),
     (("house", RING, ()),), (("house", RING, EACH[::-1]),), (("house", RING, (("z",),)),), (("house", TWO, EACH),),
     (("house", RING[0], EACH),), (("house", None, NONE),), (HEARD[0],), (START, START), (START, list(HEARD[0])),
     (START, ODD[0]), ((), START), (("house", RING, None),),
